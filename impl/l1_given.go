@@ -16,6 +16,9 @@ const (
 	JCross  = 4
 )
 
+// tip is the place of a switch's tip among its ends; the places behind it are the Lies to them.
+const tip = 0
+
 // Piece is a piece of track, with its length, its limit of speed, and how much trains brake on it.
 type Piece struct {
 	Name  string
@@ -69,9 +72,10 @@ func NetOk(n Net) Fault {
 	return Fault{}
 }
 
-// jointKind is what a joint's Kind stands for: a type for each of them.
+// jointKind is what a joint's Kind stands for: a type for each of them. Ends are told by their places in the joint.
 type jointKind interface {
 	endCount() int
+	beyond(place int) []int
 }
 
 type bufferKind struct{}
@@ -89,6 +93,20 @@ func (plainKind) endCount() int { return 2 }
 func (switchKind) endCount() int { return 3 }
 
 func (crossKind) endCount() int { return 4 }
+
+func (bufferKind) beyond(int) []int { return nil }
+
+func (plainKind) beyond(place int) []int { return []int{1 - place} }
+
+// beyond tells left ahead of right, as routes and flanks are told.
+func (switchKind) beyond(place int) []int {
+	if place == tip {
+		return []int{tip + 1, tip + 2}
+	}
+	return []int{tip}
+}
+
+func (crossKind) beyond(place int) []int { return []int{place ^ 1} }
 
 // kindOf answers false for a number that is no Kind.
 func kindOf(kind int) (jointKind, bool) {
