@@ -227,6 +227,7 @@ func tried(show func(n impl.Net, signals []impl.Signal)) {
 }
 
 func TestRoutesAreWhatIsDriven(t *testing.T) {
+	t.Parallel()
 	count, over := 0, 0
 	tried(func(n impl.Net, signals []impl.Signal) {
 		if t.Failed() {
@@ -247,6 +248,7 @@ func TestRoutesAreWhatIsDriven(t *testing.T) {
 
 // However switches lie, who drives from a signal drives over just one route, or comes to no end.
 func TestADriveIsJustOneRoute(t *testing.T) {
+	t.Parallel()
 	ends, noEnds := 0, 0
 	tried(func(n impl.Net, signals []impl.Signal) {
 		if t.Failed() {
@@ -291,6 +293,7 @@ func onceEach(lies []impl.Lie) []impl.Lie {
 
 // A route's parts lie one after the other on its steps, from its signal to the next; each of its switches has a flank.
 func TestPartsAndFlanksOfEachRoute(t *testing.T) {
+	t.Parallel()
 	tried(func(n impl.Net, signals []impl.Signal) {
 		for _, r := range impl.Routes(n, signals, 5) {
 			if what := wrongWithParts(n, signals, r); what != "" {
