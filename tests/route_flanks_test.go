@@ -116,6 +116,20 @@ func tree() impl.Net {
 	}
 }
 
+// shortcut goes from w on, b to v and on to u, and c straight to u.
+func shortcut() impl.Net {
+	return impl.Net{
+		Pieces: []impl.Piece{piece("a", 10), piece("b", 20), piece("c", 30), piece("d", 40), piece("e", 50), piece("f", 60)},
+		Joints: []impl.Joint{
+			buffer(end(0, 0)),
+			points("w", end(0, 1), end(1, 0), end(2, 0)),
+			points("v", end(1, 1), end(3, 0), end(4, 0)),
+			points("u", end(5, 0), end(3, 1), end(2, 1)),
+			buffer(end(4, 1)), buffer(end(5, 1)),
+		},
+	}
+}
+
 // A switch that is not on the route has to lie away; one that the route needs may lie away as well, or be open.
 func TestFlankIsASwitch(t *testing.T) {
 	for place, want := range map[int]string{1: "1=switch:7>", 2: "1=switch:7<"} {
@@ -132,19 +146,8 @@ func TestFlankIsASwitch(t *testing.T) {
 	wantFlanks(t, "needed to lie to the other end, left", diamonds(1), s, "0< 1<", "0=switch:1< 1=switch:0<")
 	wantFlanks(t, "needed to lie to the other end, right", diamonds(1), s, "0> 1>", "0=switch:1> 1=switch:0>")
 
-	// from w on, b to v and on to u, and c straight to u
-	short := impl.Net{
-		Pieces: []impl.Piece{piece("a", 10), piece("b", 20), piece("c", 30), piece("d", 40), piece("e", 50), piece("f", 60)},
-		Joints: []impl.Joint{
-			buffer(end(0, 0)),
-			points("w", end(0, 1), end(1, 0), end(2, 0)),
-			points("v", end(1, 1), end(3, 0), end(4, 0)),
-			points("u", end(5, 0), end(3, 1), end(2, 1)),
-			buffer(end(4, 1)), buffer(end(5, 1)),
-		},
-	}
-	wantFlanks(t, "one that is needed and one that is not", short, s, "1< 2< 3<", "1=switch:3< 2=buffer:4 3=switch:1<")
-	wantFlanks(t, "needed by another route alone", short, s, "1< 2>", "1=switch:3< 2=switch:3>")
+	wantFlanks(t, "one that is needed and one that is not", shortcut(), s, "1< 2< 3<", "1=switch:3< 2=buffer:4 3=switch:1<")
+	wantFlanks(t, "needed by another route alone", shortcut(), s, "1< 2>", "1=switch:3< 2=switch:3>")
 }
 
 func TestFlankIsOpen(t *testing.T) {
@@ -167,6 +170,18 @@ func TestFlankIsOpen(t *testing.T) {
 	wantFlanks(t, "another route, which needs it the other way", n, []impl.Signal{post("s", 3, 4, -1)}, "0> 1<", "0=switch:1< 1=switch:0>")
 }
 
+// rounded has a from v's right end to w's tip, b from w's left end to v's left end, c from w's right end to a buffer.
+func rounded() impl.Net {
+	return impl.Net{
+		Pieces: []impl.Piece{piece("a", 10), piece("b", 20), piece("c", 30), piece("d", 40)},
+		Joints: []impl.Joint{
+			points("w", end(0, 1), end(1, 0), end(2, 0)),
+			points("v", end(3, 0), end(1, 1), end(0, 0)),
+			buffer(end(2, 1)), buffer(end(3, 1)),
+		},
+	}
+}
+
 func TestLookedFromOnce(t *testing.T) {
 	ringed := impl.Net{
 		Pieces: []impl.Piece{piece("a", 10), piece("b", 20), piece("c", 30)},
@@ -177,14 +192,5 @@ func TestLookedFromOnce(t *testing.T) {
 	ringed.Joints[0].Ends[1], ringed.Joints[0].Ends[2] = ringed.Joints[0].Ends[2], ringed.Joints[0].Ends[1]
 	wantFlanks(t, "from the left end round to the tip", ringed, []impl.Signal{post("s", 0, 5, -1)}, "0>", "0=buffer:2")
 
-	// a goes from v's right end to w's tip, b from w's left end to v's left end, c from w's right end to a buffer.
-	both := impl.Net{
-		Pieces: []impl.Piece{piece("a", 10), piece("b", 20), piece("c", 30), piece("d", 40)},
-		Joints: []impl.Joint{
-			points("w", end(0, 1), end(1, 0), end(2, 0)),
-			points("v", end(3, 0), end(1, 1), end(0, 0)),
-			buffer(end(2, 1)), buffer(end(3, 1)),
-		},
-	}
-	wantFlanks(t, "what was looked from for one switch is looked from for the next", both, []impl.Signal{post("s", 0, 5, 1)}, "0< 1<", "0=buffer:2 1=open:1 1=buffer:2")
+	wantFlanks(t, "what was looked from for one switch is looked from for the next", rounded(), []impl.Signal{post("s", 0, 5, 1)}, "0< 1<", "0=buffer:2 1=open:1 1=buffer:2")
 }

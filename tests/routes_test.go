@@ -73,13 +73,17 @@ func TestRouteEndsAtTheNearestSignal(t *testing.T) {
 		"4>0 steps 0+ parts 0:5-10")
 }
 
-// Pieces stand in a row whichever of their ends comes first.
-func TestRouteOverPiecesThatLieAgainstIt(t *testing.T) {
-	n := impl.Net{
+// turnedRow is a, b and c between two buffers, a and b with their end 1 ahead.
+func turnedRow() impl.Net {
+	return impl.Net{
 		Pieces: []impl.Piece{piece("a", 10), piece("b", 20), piece("c", 30)},
 		Joints: []impl.Joint{buffer(end(0, 1)), plain(end(1, 1), end(0, 0)), plain(end(1, 0), end(2, 0)), buffer(end(2, 1))},
 	}
-	wantRoutes(t, "a row", n, []impl.Signal{post("s", 0, 4, -1), post("x", 2, 7, -1), post("y", 2, 9, 1)}, 10,
+}
+
+// Pieces stand in a row whichever of their ends comes first.
+func TestRouteOverPiecesThatLieAgainstIt(t *testing.T) {
+	wantRoutes(t, "a row", turnedRow(), []impl.Signal{post("s", 0, 4, -1), post("x", 2, 7, -1), post("y", 2, 9, 1)}, 10,
 		"0>2 steps 0- 1- 2+ parts 0:0-4 1:0-20 2:0-9 over 2:9-19",
 		"1>-1 steps 2- 1+ 0+ parts 2:0-7 1:0-20 0:0-10",
 		"2>-1 steps 2+ parts 2:9-30")
