@@ -234,7 +234,7 @@ func TestNoArgumentIsWrittenIntoForSmallNets(t *testing.T) {
 	seen := 0
 	tried(func(n impl.Net, signals []impl.Signal) {
 		seen++
-		if t.Failed() || seen%20 != 0 {
+		if t.Failed() || seen%19 != 0 {
 			return
 		}
 		from := ""

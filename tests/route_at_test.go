@@ -235,7 +235,7 @@ func TestRouteAtNamesWhatIsDriven(t *testing.T) {
 	seen, ends, noEnds := 0, 0, 0
 	tried(func(n impl.Net, signals []impl.Signal) {
 		seen++
-		if t.Failed() || len(n.Pieces) > 4 && seen%4 != 0 {
+		if t.Failed() || len(n.Pieces) > 4 && seen%5 != 0 {
 			return
 		}
 		routes := impl.Routes(n, signals, d.throw(9))
